@@ -1,0 +1,1 @@
+"""Farend: works taken from another hand's far end."""

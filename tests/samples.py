@@ -1,0 +1,50 @@
+"""Jobs that several tests look at."""
+
+import random
+
+DO = ("do",)
+WAIT = ("wait",)
+
+
+def send(work):
+    return ("send", work)
+
+
+def chain(many, steps=1):
+    """Each work sends off the next one by its first step; all others of its steps wait."""
+    works = []
+    for work in range(many):
+        if work + 1 < many:
+            works.append((1 + work % 9, (send(work + 1),) + (WAIT,) * (steps - 1)))
+        else:
+            works.append((1 + work % 9, (DO,) * steps))
+    return tuple(works)
+
+
+def random_job(seed):
+    """A job in which sends, deeds and waits are mixed, always the same one for a seed."""
+    chance = random.Random(seed)
+    many = chance.randint(1, 12)
+    rows = [[] for work in range(many)]
+    for work in range(1, many):
+        roomy = [elder for elder in range(work) if len(rows[elder]) < 7]
+        rows[chance.choice(roomy)].append(send(work))
+    for row in rows:
+        for turn in range(chance.randint(0 if row else 1, 8 - len(row))):
+            row.insert(chance.randint(0, len(row)), chance.choice([DO, WAIT, WAIT]))
+    return tuple((chance.randint(1, 9), tuple(row)) for row in rows)
+
+
+ALONE = ((5, (DO,)),)
+
+MANY_CHILDREN = (
+    (2, tuple(send(work) for work in range(1, 8)) + (WAIT,)),
+) + tuple((work, (DO,) * work) for work in range(1, 8))
+
+# 0 sends 1, waits, sends 2, does, waits; 1 sends 3 and ends without a wait.
+TWO_WAITS = (
+    (4, (WAIT, send(1), WAIT, send(2), DO, WAIT)),
+    (1, (DO, send(3), DO)),
+    (2, (DO, DO)),
+    (9, (DO, DO, DO, DO)),
+)
