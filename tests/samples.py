@@ -48,3 +48,37 @@ TWO_WAITS = (
     (2, (DO, DO)),
     (9, (DO, DO, DO, DO)),
 )
+
+# Each work sends off the next one and has a step left, so works lie deep in a heap: 0, 1, 2 while 3 is done.
+DEEP_HEAP = (
+    (1, (send(1), DO)),
+    (2, (send(2), DO)),
+    (3, (send(3), DO)),
+    (4, (DO, DO)),
+)
+
+# Each work's last step sends off the next one, so all end together.
+ALL_AT_ONCE = tuple((1, (send(work + 1),)) for work in range(11)) + ((1, (DO,)),)
+
+
+def random_weaving(seed, hands, many):
+    """Turns of hands, each looking at any other one, always the same ones for a seed."""
+    chance = random.Random(seed)
+    if hands == 1:
+        return [(0, 0)] * many
+    return [tuple(chance.sample(range(hands), 2)) for turn in range(many)]
+
+
+def no_turns(hands):
+    """Things of all kinds that are no turns of so many hands."""
+    great = 123456789012345678901234567890
+    wrong = [
+        (), (0,), (1,), (0, 1, 0), (0, 0, 0), [0, 1], [0, 0], [], (0, hands), (hands, 0), (-1, 0), (0, -1), (-1, -2),
+        (True, 0), (0, True), (False, 1), (1, False), (False, 0), (0, False), (True, False), (None, 0), (0, None),
+        ("0", 1), (0, "1"), ("0", "1"), ("", 0), (0, great), (great, 0), (great, great), (0, -great), (-great, 0),
+        ((0,), (1,)), ((0, 1),), ([0], 1), (0, [1]), ({}, 0), (0, {}), (0, ()), None, True, False, 0, 1, -1, great,
+        "", "01", "turn", {}, {0: 1}, {0: 1, 1: 0}, ((((((0, 1),),),),),), [[[[[]]]]],
+    ]
+    if hands == 1:
+        return wrong + [(0, 1), (1, 0), (1, 1)]
+    return wrong + [(hand, hand) for hand in range(hands)] + [(hands, hands)]

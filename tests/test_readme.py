@@ -1,5 +1,6 @@
 """The README's rows tell what the program tells."""
 
+import ast
 import os
 import re
 import unittest
@@ -7,19 +8,39 @@ import unittest
 README = os.path.join(os.path.dirname(os.path.dirname(os.path.abspath(__file__))), "README.md")
 
 
+def told_behind(line):
+    """What a row's comment says is told, up to a semicolon or a colon."""
+    return re.match(r"[^#]*# (.*?)(?=[;:] |$)", line).group(1)
+
+
 class ReadmeTest(unittest.TestCase):
     def setUp(self):
         with open(README, encoding="utf-8") as file:
             self.text = file.read()
 
+    def blocks(self):
+        return re.findall(r"```python\n(.*?)```", self.text, re.DOTALL)
+
     def test_examples(self):
-        code = re.search(r"```python\n(.*?)```", self.text, re.DOTALL).group(1)
         names = {}
-        exec(code, names)
-        rows = re.findall(r"^(\w+\(.*\)) +# (True|\d+|\[.*?\])(?=$|[;:]| steps)", code, re.MULTILINE)
-        self.assertEqual(len(rows), 8)
-        for asked, told in rows:
-            self.assertEqual(eval(asked, names), eval(told), asked)
+        rows = 0
+        for code in self.blocks():
+            for statement in ast.parse(code).body:
+                part = ast.get_source_segment(code, statement)
+                if not isinstance(statement, ast.Expr):
+                    exec(part, names)
+                    continue
+                told = told_behind(code.splitlines()[statement.end_lineno - 1])
+                self.assertEqual(repr(eval(part, names)), repr(eval(told)), part)
+                rows += 1
+        self.assertGreaterEqual(rows, 8)
+
+    def test_each_module_is_shown(self):
+        package = os.path.join(os.path.dirname(README), "farend")
+        for name in os.listdir(package):
+            # The one helper that nobody needs to call.
+            if name.endswith(".py") and name not in ("__init__.py", "crew.py"):
+                self.assertIn("farend." + name[:-3], self.text)
 
     def test_it_says_how_the_tests_are_run(self):
         self.assertIn(".ci/run", self.text)
