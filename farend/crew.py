@@ -20,6 +20,19 @@ class Crew:
         self.room_most = 0
         self.begin(0)
 
+    def copied(self):
+        """Tell a crew that stands as this one does and is touched by nothing that this one does later."""
+        twin = Crew(self.job, len(self.piles))
+        twin.at_work = list(self.at_work)
+        twin.piles = [list(pile) for pile in self.piles]
+        twin.stands = list(self.stands)
+        twin.lives = list(self.lives)
+        twin.next_steps = list(self.next_steps)
+        twin.steps_done = list(self.steps_done)
+        twin.room_now = self.room_now
+        twin.room_most = self.room_most
+        return twin
+
     def all_ended(self):
         """Tell whether all has ended: 0 ends last."""
         return not self.lives[0]

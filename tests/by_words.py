@@ -48,6 +48,15 @@ class ByWords:
         self.standing = set()
         self.most = room_of(job, [])
 
+    def copied(self):
+        twin = ByWords(self.job, len(self.has))
+        twin.done = list(self.done)
+        twin.has = dict(self.has)
+        twin.heaps = {hand: list(heap) for hand, heap in self.heaps.items()}
+        twin.standing = set(self.standing)
+        twin.most = self.most
+        return twin
+
     def next_step(self, work):
         number = len([step for step in self.done if step[0] == work])
         steps = self.job[work][1]

@@ -82,3 +82,28 @@ def no_turns(hands):
     if hands == 1:
         return wrong + [(0, 1), (1, 0), (1, 1)]
     return wrong + [(hand, hand) for hand in range(hands)] + [(hands, hands)]
+
+
+def random_order(seed, hands):
+    """An order of looking, always the same one for a seed."""
+    chance = random.Random(seed)
+    rows = []
+    for hand in range(hands):
+        row = [other for other in range(hands) if other != hand]
+        chance.shuffle(row)
+        rows.append(tuple(row))
+    return tuple(rows)
+
+
+def around(hands):
+    """Each hand looks from the next one on around."""
+    return tuple(tuple((hand + far) % hands for far in range(1, hands)) for hand in range(hands))
+
+
+# Things of every kind that may be handed in where any thing may.
+GREAT = 123456789012345678901234567890
+ANY_THINGS = [
+    None, True, False, 0, 1, -1, GREAT, -GREAT, "", "step", "a b\t~\n", (), (0,), (None,), ((),), (0, 1), [], [0], [[]],
+    [()], [[[[[[]]]]]], ((((((),),),),),), {}, {0: 1}, {"step": (0, 0)}, {(0, 0): []}, ({},), [{}], ("step", 0, 0),
+    (0, ("step", 0)), (0, ("step", 0, 0, 0)), (0, ["step", 0, 0]), [0, ("step", 0, 0)], "()" * 500, (0,) * 2000,
+]
