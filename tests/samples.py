@@ -35,6 +35,26 @@ def random_job(seed):
     return tuple((chance.randint(1, 9), tuple(row)) for row in rows)
 
 
+def random_small_job(seed):
+    """A job of at most nine steps, always the same one for a seed."""
+    chance = random.Random(seed)
+    many = 1 + seed % 9
+    rows = [[] for work in range(many)]
+    for work in range(1, many):
+        rows[chance.randrange(work)].append(send(work))
+    for row in rows:
+        if not row:
+            row.append(DO)
+    # With many works the sends and deeds may be nine steps already, or more: then the last works go.
+    while sum(len(row) for row in rows) > 9:
+        last = len(rows) - 1
+        rows = [[step for step in row if step != send(last)] or [DO] for row in rows[:last]]
+    for turn in range(min(9, 8 * len(rows)) - sum(len(row) for row in rows) - seed // 9 % 3):
+        row = chance.choice([row for row in rows if len(row) < 8])
+        row.insert(chance.randint(0, len(row)), chance.choice([DO, WAIT]))
+    return tuple((chance.randint(1, 9), tuple(row)) for row in rows)
+
+
 ALONE = ((5, (DO,)),)
 
 MANY_CHILDREN = (

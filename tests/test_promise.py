@@ -1,20 +1,24 @@
-"""Point 3, as far as turns and beats go: in every weaving, whoever looks at whose heap."""
+"""Point 3: in every weaving of turns, whoever looks at whose heap, and in every weaving of small deeds."""
 
 import itertools
 import os
 import sys
 import unittest
+from collections import Counter
 
 sys.path.insert(0, os.path.dirname(os.path.abspath(__file__)))
 
 from by_words import ByWords
-from farend.beats import measured
-from farend.plans import bound
+from deeds_by_words import SMALL_TRIES, all_games, plays
+from farend.beats import beaten, measured
+from farend.ends import walked
+from farend.fewest import fewest
+from farend.plans import bound, is_plan
 from farend.ways import all_hangs, longest, road, whole
 from farend.yard import Yard
 from samples import (
-    ALL_AT_ONCE, DEEP_HEAP, DO, MANY_CHILDREN, TWO_WAITS, WAIT, around, chain, random_job, random_order, random_weaving,
-    send,
+    ALL_AT_ONCE, DEEP_HEAP, DO, MANY_CHILDREN, TWO_WAITS, WAIT, around, chain, random_job, random_order, random_small_job,
+    random_weaving, send,
 )
 
 JOBS = [ALL_AT_ONCE, DEEP_HEAP, MANY_CHILDREN, TWO_WAITS, chain(12), chain(12, 8)] + [random_job(seed) for seed in range(40)]
@@ -129,6 +133,39 @@ class PromiseTest(unittest.TestCase):
                     self.assertLessEqual(beats * hands, longest(job) * hands + whole(job))
                     self.assertLessEqual(beats, 2 * bound(job, hands))
                     self.assertLessEqual(most, hands * road(job))
+
+    def test_beats_are_at_most_twice_the_fewest(self):
+        unlike = 0
+        for seed in range(60):
+            job = random_small_job(seed)
+            for hands in range(1, 5):
+                few = len(fewest(job, hands)[0])
+                for order in self.orders(hands, seed):
+                    beats = beaten(job, hands, order)
+                    self.assertTrue(is_plan(job, hands, [sorted(step for step in beat if step) for beat in beats]))
+                    self.assertLessEqual(few, len(beats))
+                    self.assertLessEqual(len(beats), 2 * few)
+                    unlike += few < len(beats)
+        self.assertGreater(unlike, 0)
+
+    def orders(self, hands, seed):
+        """All orders of looking of three hands and fewer, some of more."""
+        if hands > 3:
+            return [around(hands)] + [random_order(seed + turn, hands) for turn in range(3)]
+        rows = [itertools.permutations([other for other in range(hands) if other != hand]) for hand in range(hands)]
+        return itertools.product(*rows)
+
+    def test_in_every_weaving_of_small_deeds_each_thing_is_got_once_at_most_and_none_is_lost(self):
+        for play in list(plays(3, SMALL_TRIES)) + list(plays(4, [(1, 2)])):
+            for game, weaving in all_games(play):
+                told, left = walked(play, weaving)
+                got = Counter(what for row in told for what in row if what not in (None, "lost"))
+                laid = Counter(game.laid())
+                self.assertLessEqual(got, laid)
+                # In the middle of a deed a thing may be neither got yet nor lie there.
+                self.assertLessEqual(got + Counter(left), laid)
+                if not game.able():
+                    self.assertEqual(got + Counter(left), laid)
 
 
 if __name__ == "__main__":
