@@ -1,8 +1,8 @@
 """Fewest beats of a plan, with marks that show that no plan has fewer."""
 
 from farend.errors import NoSize
-from farend.jobs import is_whole
-from farend.plans import is_plan, is_step_told
+from farend.jobs import is_whole, is_whole_pair
+from farend.plans import is_plan
 from farend.ways import links, longest, whole
 
 MOST_STEPS_MARKED = 9
@@ -80,7 +80,7 @@ def fewest(job, hands):
 
 def is_stand_told(thing):
     """Tell of any thing whether it could be a stand as it is told; Python finds keys of truths equal to it."""
-    return isinstance(thing, tuple) and all(is_step_told(step) for step in thing)
+    return isinstance(thing, tuple) and all(is_whole_pair(step) for step in thing)
 
 
 def has_just_keys(stands, thing):

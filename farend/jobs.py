@@ -10,6 +10,11 @@ def is_whole(thing):
     return isinstance(thing, int) and not isinstance(thing, bool)
 
 
+def is_whole_pair(thing):
+    """Tell of any thing whether it is a tuple of two whole numbers, as steps and deeds are told."""
+    return isinstance(thing, tuple) and len(thing) == 2 and is_whole(thing[0]) and is_whole(thing[1])
+
+
 def is_step(thing):
     """Tell whether a thing is a step by itself, whatever works there are."""
     if not isinstance(thing, tuple):

@@ -1,19 +1,14 @@
 """Plans of anybody, and what no plan can fall below."""
 
-from farend.jobs import is_whole
+from farend.jobs import is_whole_pair
 from farend.ways import all_steps, links, longest, whole
-
-
-def is_step_told(thing):
-    """Tell of any thing whether it could be a step as it is told, whatever steps there are."""
-    return isinstance(thing, tuple) and len(thing) == 2 and is_whole(thing[0]) and is_whole(thing[1])
 
 
 def is_beat(thing, hands):
     """Tell of any thing whether it is a list of steps, rising, of at most as many as hands."""
     if not isinstance(thing, list) or len(thing) > hands:
         return False
-    return all(is_step_told(step) for step in thing) and thing == sorted(thing)
+    return all(is_whole_pair(step) for step in thing) and thing == sorted(thing)
 
 
 def are_in_order(job, beats):

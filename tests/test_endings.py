@@ -10,7 +10,8 @@ sys.path.insert(0, os.path.dirname(os.path.abspath(__file__)))
 from deeds_by_words import SMALL_TRIES, Game, all_games, all_weavings, plays, random_full_weaving
 from farend.endings import endings, weaving_to
 from farend.ends import walked
-from farend.errors import FarError, NoBack, NoJob, NoLine, NoOrder, NoSize, NoText, NoTurn, NoYard
+from farend.errors import NoSize
+from refusals import assert_refused
 from samples import GREAT
 
 TAKE = ("take",)
@@ -205,11 +206,7 @@ class WeavingToTest(unittest.TestCase):
 
 class NoSizeTest(unittest.TestCase):
     def refused(self, asked):
-        with self.assertRaises(NoSize) as caught:
-            asked()
-        self.assertIsInstance(caught.exception, FarError)
-        self.assertIsInstance(caught.exception, ValueError)
-        self.assertNotIsInstance(caught.exception, (NoBack, NoJob, NoLine, NoOrder, NoText, NoTurn, NoYard))
+        assert_refused(self, NoSize, asked)
 
     def test_great_plays(self):
         for play in GREAT_PLAYS:

@@ -9,9 +9,10 @@ import unittest
 sys.path.insert(0, os.path.dirname(os.path.abspath(__file__)))
 
 from by_words import children
-from farend.errors import FarError, NoBack, NoJob, NoLine, NoOrder, NoSize, NoText, NoTurn, NoYard
+from farend.errors import NoSize
 from farend.fewest import fewest, is_fewest, least_hands
 from farend.plans import bound, is_plan
+from refusals import assert_refused
 from samples import (
     ALL_AT_ONCE, ALONE, ANY_THINGS, DEEP_HEAP, DO, GREAT, MANY_CHILDREN, TWO_WAITS, WAIT, chain, random_small_job, send,
 )
@@ -392,11 +393,7 @@ def chain_to(needs, step):
 
 class NoSizeTest(unittest.TestCase):
     def refused(self, asked):
-        with self.assertRaises(NoSize) as caught:
-            asked()
-        self.assertIsInstance(caught.exception, FarError)
-        self.assertIsInstance(caught.exception, ValueError)
-        self.assertNotIsInstance(caught.exception, (NoBack, NoJob, NoLine, NoOrder, NoText, NoTurn, NoYard))
+        assert_refused(self, NoSize, asked)
 
     def test_ten_steps_and_more(self):
         for job in GREAT_JOBS:

@@ -9,8 +9,15 @@ README = os.path.join(os.path.dirname(os.path.dirname(os.path.abspath(__file__))
 
 
 def told_behind(line):
-    """What a row's comment says is told, up to a semicolon or a colon."""
-    return re.match(r"[^#]*# (.*?)(?=[;:] |$)", line).group(1)
+    """What a row's comment says is told: the longest beginning, up to a semicolon or a colon, that is a value."""
+    comment = line.split("# ", 1)[1]
+    ends = [len(comment)] + [found.start() for found in re.finditer(r"[;:] ", comment)]
+    for end in sorted(ends, reverse=True):
+        try:
+            return ast.literal_eval(comment[:end])
+        except SyntaxError:
+            pass
+    raise AssertionError(line)
 
 
 class ReadmeTest(unittest.TestCase):
@@ -31,7 +38,7 @@ class ReadmeTest(unittest.TestCase):
                     exec(part, names)
                     continue
                 told = told_behind(code.splitlines()[statement.end_lineno - 1])
-                self.assertEqual(repr(eval(part, names)), repr(eval(told)), part)
+                self.assertEqual(repr(eval(part, names)), repr(told), part)
                 rows += 1
         self.assertGreaterEqual(rows, 8)
 
